@@ -3,6 +3,7 @@ package byteset
 
 import (
 	"iter"
+	"math/bits"
 
 	"reglet/api"
 )
@@ -106,9 +107,12 @@ func Classes(l []api.Set) [256]int {
 // members yields the bytes of s in ascending order.
 func members(s api.Set) iter.Seq[int] {
 	return func(yield func(int) bool) {
-		for b := range byteCount {
-			if Has(s, b) && !yield(b) {
-				return
+		for i, word := range s {
+			// Each time, the lowest bit that is left falls away.
+			for ; word != 0; word &= word - 1 {
+				if !yield(i*wordBits + bits.TrailingZeros64(word)) {
+					return
+				}
 			}
 		}
 	}
